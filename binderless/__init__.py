@@ -1,0 +1,1 @@
+"""Lambda terms, read, written, compared and reduced."""

@@ -1,0 +1,88 @@
+"""Calls on terms, handed in and answered as whole numbers."""
+
+from binderless.nodes import apply_row, bind_name
+from binderless.reader import read_term
+from binderless.refusals import NoName, Refusal
+from binderless.shelf import Shelf
+from binderless.signs import is_name
+from binderless.writer import write_term
+
+
+class Tape:
+    def __init__(self, numbers):
+        self.numbers = numbers
+        self.place = 0
+
+    def is_over(self):
+        return self.place == len(self.numbers)
+
+    def take_number(self):
+        number = self.numbers[self.place]
+        self.place += 1
+        return number
+
+    def take_row(self):
+        start = self.place + 1
+        self.place = start + self.numbers[self.place]
+        return self.numbers[start:self.place]
+
+
+# Each takes all of its numbers from the tape first: behind a refusal the tape must stand at the next call.
+
+
+def answer_read(shelf, tape):
+    text = tape.take_row()
+    return [shelf.keep(read_term(text))]
+
+
+def answer_text(shelf, tape):
+    number = tape.take_number()
+    return write_term(shelf.term(number))
+
+
+def answer_nodes(shelf, tape):
+    number = tape.take_number()
+    return [len(shelf.term(number))]
+
+
+def answer_same(shelf, tape):
+    left = tape.take_number()
+    right = tape.take_number()
+    return [1 if shelf.term(left) == shelf.term(right) else 0]
+
+
+def answer_apply(shelf, tape):
+    function = tape.take_number()
+    argument = tape.take_number()
+    return [shelf.keep(apply_row([shelf.term(function), shelf.term(argument)]))]
+
+
+def answer_abstract(shelf, tape):
+    number = tape.take_number()
+    name = tape.take_row()
+    term = shelf.term(number)
+    if not is_name(name):
+        raise NoName()
+    return [shelf.keep(bind_name(term, tuple(name)))]
+
+
+CALLS = (answer_read, answer_text, answer_nodes, answer_same, answer_apply, answer_abstract)
+
+
+def answer_call(shelf, tape):
+    call = CALLS[tape.take_number()]
+    try:
+        return [0] + call(shelf, tape)
+    except Refusal as refusal:
+        return refusal.numbers
+
+
+def answers(calls):
+    shelf = Shelf()
+    tape = Tape(calls)
+    answered = []
+    while not tape.is_over():
+        answer = answer_call(shelf, tape)
+        answered.append(len(answer))
+        answered.extend(answer)
+    return answered

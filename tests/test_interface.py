@@ -1,0 +1,70 @@
+import unittest
+
+import binderless.terms
+from helpers import abstract, apply, nodes, read, same, text
+
+
+class Interface(unittest.TestCase):
+    def test_several_calls_in_one_list(self):
+        calls = read("f x") + nodes(0) + text(0) + same(0, 1) + abstract(0, "x") + same(0, 1) + text(1) + read("(")
+        self.assertEqual(binderless.terms.answers(calls), (
+            [2, 0, 0] + [2, 0, 3] + [4, 0] + list(b"f x") + [1, -4] + [2, 0, 1] + [2, 0, 0]
+            + [9, 0] + list(b"\\x0.f x0") + [2, -1, 1]))
+
+    def test_how_many_numbers_stand_ahead_of_each_answer(self):
+        for calls, answered in (
+            (read("x"), [2, 0, 0]),
+            (read(""), [2, -1, 0]),
+            (read("x" * 4097), [1, -6]),
+            (read("x " * 101), [1, -2]),
+            (text(0), [1, -4]),
+            (nodes(4294967295), [1, -4]),
+            (same(0, 0), [1, -4]),
+            (apply(0, 0), [1, -4]),
+            (abstract(0, ""), [1, -4]),
+            (read("x") + abstract(0, ""), [2, 0, 0, 1, -1]),
+            (read("x") + apply(0, 0), [2, 0, 0, 2, 0, 1]),
+            (read("x") + same(0, 0), [2, 0, 0, 2, 0, 1]),
+        ):
+            self.assertEqual(binderless.terms.answers(calls), answered)
+
+    def test_behind_a_refusal_the_next_call_is_found(self):
+        for refused in (read("+ 0 1 2"), read("x" * 4200), abstract(9, "x y"), abstract(0, "1" * 4200), apply(9, 9)):
+            answered = binderless.terms.answers(read("x") + refused + nodes(0))
+            self.assertEqual(answered[-3:], [2, 0, 1])
+
+    def test_the_most_calls(self):
+        calls = read("x") + nodes(0) * 199
+        self.assertEqual(binderless.terms.answers(calls), [2, 0, 0] + [2, 0, 1] * 199)
+
+    def test_long_texts_one_behind_another(self):
+        calls = read("x " * 2048) * 7
+        self.assertEqual(binderless.terms.answers(calls), [1, -2] * 7)
+
+    def test_the_list_handed_in_is_as_it_was(self):
+        calls = read("\\x.x y") + abstract(0, "y") + apply(0, 1) + text(2) + read(")") + same(0, 1)
+        before = list(calls)
+        binderless.terms.answers(calls)
+        self.assertEqual(calls, before)
+
+    def test_asking_twice_answers_the_same(self):
+        calls = read("\\x.x y") + abstract(0, "y") + apply(0, 1) + text(2)
+        first = binderless.terms.answers(calls)
+        self.assertEqual(binderless.terms.answers(calls), first)
+        self.assertEqual(binderless.terms.answers(text(0)), [1, -4])
+        self.assertEqual(binderless.terms.answers(list(calls)), first)
+
+    def test_what_was_answered_can_be_changed_without_harm(self):
+        calls = read(")") + text(0)
+        binderless.terms.answers(calls).append(7)
+        self.assertEqual(binderless.terms.answers(calls), [2, -1, 0, 1, -4])
+
+    def test_whole_numbers_are_never_true_or_false(self):
+        calls = read("x") + read("y") + same(0, 1) + same(0, 0) + nodes(0) + text(0) + abstract(0, "")
+        answered = binderless.terms.answers(calls)
+        self.assertIs(type(answered), list)
+        self.assertEqual({type(number) for number in answered}, {int})
+
+
+if __name__ == "__main__":
+    unittest.main()
