@@ -34,32 +34,61 @@ def bind_name(term, name):
     return abstraction_of(tuple(body))
 
 
-def count_parts(node):
-    if node == APPLICATION:
-        return 2
-    if node == ABSTRACTION:
-        return 1
-    return 0
+def replace_name(term, name, part):
+    # The part is a whole term: nothing in it counts binders around it, so it can stand anywhere as it is.
+    nodes = []
+    for node in term:
+        if node == (FREE, name):
+            nodes.extend(part)
+        else:
+            nodes.append(node)
+    return tuple(nodes)
 
 
-def counts_above(term, counted):
+def free_names(term):
+    # A dict keeps the order of first places and has each name once.
+    names = {}
+    for node in term:
+        if node[0] == FREE:
+            names[node[1]] = True
+    return names
+
+
+def part_end(term, start):
+    missing = 1
+    end = start
+    while missing > 0:
+        node = term[end]
+        if node == APPLICATION:
+            missing += 1
+        elif node != ABSTRACTION:
+            missing -= 1
+        end += 1
+    return end
+
+
+def counts_above(term, for_application):
+    # An abstraction counts one; an application one for the depth, and nothing where binders are counted.
     # The parts still to come wait on a stack with their counts, in the place of calls within one another.
     waiting = [0]
     counts = []
     for node in term:
         above = waiting.pop()
         counts.append(above)
-        below = above + 1 if node in counted else above
-        waiting.extend([below] * count_parts(node))
+        if node == APPLICATION:
+            waiting.append(above + for_application)
+            waiting.append(above + for_application)
+        elif node == ABSTRACTION:
+            waiting.append(above + 1)
     return counts
 
 
 def binders_around(term):
-    return counts_above(term, (ABSTRACTION,))
+    return counts_above(term, 0)
 
 
 def depth_of(term):
-    return 1 + max(counts_above(term, (ABSTRACTION, APPLICATION)))
+    return 1 + max(counts_above(term, 1))
 
 
 def is_too_large(term):

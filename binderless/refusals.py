@@ -32,6 +32,16 @@ class NotKept(Refusal):
         Refusal.__init__(self, [-4])
 
 
+class AlreadyNormal(Refusal):
+    def __init__(self):
+        Refusal.__init__(self, [-5])
+
+
 class TooLong(Refusal):
+    def __init__(self):
+        Refusal.__init__(self, [-6])
+
+
+class TooManySteps(Refusal):
     def __init__(self):
         Refusal.__init__(self, [-6])

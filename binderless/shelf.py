@@ -22,6 +22,11 @@ class Shelf:
         self.kept[number] = term
         return number
 
+    def drop(self, number):
+        if number not in self.kept:
+            raise NotKept()
+        self.kept.pop(number)
+
     def least_free(self):
         for number in range(MOST_KEPT):
             if number not in self.kept:

@@ -1,6 +1,6 @@
 """Terms written as texts, with names for the binders."""
 
-from binderless.nodes import ABSTRACTION, APPLICATION, BOUND, FREE, binders_around
+from binderless.nodes import ABSTRACTION, APPLICATION, BOUND, binders_around, free_names
 from binderless.signs import BACKSLASH, DOT, LEFT, RIGHT, SMALL_X, SPACE
 
 
@@ -9,10 +9,7 @@ def numbered_name(number):
 
 
 def binder_names(term, most):
-    free = {}
-    for node in term:
-        if node[0] == FREE:
-            free[node[1]] = True
+    free = free_names(term)
     names = []
     number = 0
     while len(names) < most:

@@ -32,6 +32,26 @@ def abstract(t, name):
     return [5, t] + row(name)
 
 
+def replace(t, name, u):
+    return [6, t, u] + row(name)
+
+
+def step(t):
+    return [7, t]
+
+
+def normal(t, most):
+    return [8, t, most]
+
+
+def names(t):
+    return [9, t]
+
+
+def drop(t):
+    return [10, t]
+
+
 def ask(*calls):
     """The answers to these calls on one new object, a list each."""
     numbers = [number for call in calls for number in call]
@@ -62,6 +82,15 @@ def written(source):
     if answer[0] != 0:
         raise AssertionError(f"{source!r} was refused: {answer}")
     return bytes(answer[1:]).decode("ascii")
+
+
+def shown(*calls):
+    """The number that the last of these calls answers, and the text of what is kept there."""
+    answer = last(*calls)
+    if answer[0] != 0:
+        raise AssertionError(f"refused: {answer}")
+    kept = last(*calls, text(answer[1]))
+    return answer[1], bytes(kept[1:]).decode("ascii")
 
 
 def grown(count, leaf="x"):

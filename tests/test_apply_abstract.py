@@ -1,13 +1,6 @@
 import unittest
 
-from helpers import abstract, apply, ask, binders, grown, last, nodes, read, same, text
-
-
-def shown(*calls):
-    """The number that the last of these calls answers, and the text of what is kept there."""
-    number = last(*calls)
-    answer = ask(*calls, text(number[1]))[-1]
-    return number[1], bytes(answer[1:]).decode("ascii")
+from helpers import abstract, apply, ask, binders, grown, last, nodes, read, same, shown, text
 
 
 class Apply(unittest.TestCase):

@@ -1,7 +1,7 @@
 import unittest
 
 import binderless.terms
-from helpers import abstract, apply, nodes, read, same, text
+from helpers import abstract, apply, drop, names, nodes, normal, read, replace, same, step, text
 
 
 class Interface(unittest.TestCase):
@@ -10,6 +10,20 @@ class Interface(unittest.TestCase):
         self.assertEqual(binderless.terms.answers(calls), (
             [2, 0, 0] + [2, 0, 3] + [4, 0] + list(b"f x") + [1, -4] + [2, 0, 1] + [2, 0, 0]
             + [9, 0] + list(b"\\x0.f x0") + [2, -1, 1]))
+
+    def test_several_reductions_in_one_list(self):
+        calls = (read("(\\x.x y) z") + step(0) + text(1) + normal(0, 9) + names(0) + replace(1, "z", 0) + drop(1)
+                 + step(2) + normal(2, 1001) + drop(1) + read("\\x.x") + names(1))
+        self.assertEqual(binderless.terms.answers(calls), (
+            [2, 0, 0] + [2, 0, 1] + [4, 0] + list(b"z y") + [3, 0, 2, 1] + [5, 0, 1, 121, 1, 122] + [2, 0, 3] + [1, 0]
+            + [1, -5] + [1, -6] + [1, -4] + [2, 0, 1] + [1, 0]))
+
+    def test_how_calls_are_handed_in(self):
+        # Of replace both numbers stand ahead of the name.
+        calls = [0, 3, 102, 32, 120, 0, 1, 121, 6, 0, 1, 1, 120, 1, 2, 8, 2, 7, 9, 2, 10, 2, 7, 0]
+        self.assertEqual(binderless.terms.answers(calls), (
+            [2, 0, 0] + [2, 0, 1] + [2, 0, 2] + [4, 0, 102, 32, 121] + [3, 0, 3, 0] + [5, 0, 1, 102, 1, 121] + [1, 0]
+            + [1, -5]))
 
     def test_how_many_numbers_stand_ahead_of_each_answer(self):
         for calls, answered in (
@@ -25,11 +39,25 @@ class Interface(unittest.TestCase):
             (read("x") + abstract(0, ""), [2, 0, 0, 1, -1]),
             (read("x") + apply(0, 0), [2, 0, 0, 2, 0, 1]),
             (read("x") + same(0, 0), [2, 0, 0, 2, 0, 1]),
+            (replace(0, "", 0), [1, -4]),
+            (step(0), [1, -4]),
+            (normal(4294967295, 4294967295), [1, -4]),
+            (names(0), [1, -4]),
+            (drop(0), [1, -4]),
+            (read("x") + replace(0, "", 0), [2, 0, 0, 1, -1]),
+            (read("x") + replace(0, "x", 0), [2, 0, 0, 2, 0, 1]),
+            (read("x") + step(0), [2, 0, 0, 1, -5]),
+            (read("x") + normal(0, 1000), [2, 0, 0, 3, 0, 1, 0]),
+            (read("x") + normal(0, 1001), [2, 0, 0, 1, -6]),
+            (read("x") + names(0), [2, 0, 0, 3, 0, 1, 120]),
+            (read("x") + drop(0), [2, 0, 0, 1, 0]),
         ):
             self.assertEqual(binderless.terms.answers(calls), answered)
 
     def test_behind_a_refusal_the_next_call_is_found(self):
-        for refused in (read("+ 0 1 2"), read("x" * 4200), abstract(9, "x y"), abstract(0, "1" * 4200), apply(9, 9)):
+        for refused in (read("+ 0 1 2"), read("x" * 4200), abstract(9, "x y"), abstract(0, "1" * 4200), apply(9, 9),
+                        replace(9, "x y", 0), replace(0, "1" * 4200, 0), replace(0, "", 9), step(0), step(9),
+                        normal(9, 9), normal(0, 1001), names(9), drop(9)):
             answered = binderless.terms.answers(read("x") + refused + nodes(0))
             self.assertEqual(answered[-3:], [2, 0, 1])
 

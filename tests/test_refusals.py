@@ -1,11 +1,16 @@
 import unittest
 
-from helpers import abstract, all_texts, apply, ask, grown, last, nodes, read, same, text
+from helpers import (
+    abstract, all_texts, apply, ask, drop, grown, last, names, nodes, normal, read, replace, same, step, text)
 
 WIDE = grown(256)
 FULL = [read(f"a{number}") for number in range(14)] + [read(WIDE), read("x " * 100)]
 WIDE_NUMBER = 14
 DEEP_NUMBER = 15
+# A redex, one whose step is too large by nodes, one by depth, a normal term and a wide one; all other numbers normal.
+REDEXES = [read("(\\x.x) y"), read(f"(\\x.x x x) ({grown(128)})"), read("(\\x.f (g x)) (" + "x " * 99 + ")")]
+FULL_OF_REDEXES = REDEXES + [read("x"), read(WIDE)] + [read(f"a{number}") for number in range(11)]
+REDEX, WIDER, DEEPER, NORMAL, WIDE_TERM = range(5)
 NOT_KEPT = (16, 17, 255, 2**31, 2**32 - 16, 2**32 - 1)
 
 
@@ -29,22 +34,29 @@ class Numbers(unittest.TestCase):
         self.assertEqual(answers[16 + 13], [0] + list(b"a13"))
 
     def test_a_17th_is_refused(self):
-        for call in (read("x"), apply(0, 1), abstract(0, "x"), read("a0")):
+        for call in (read("x"), apply(0, 1), abstract(0, "x"), read("a0"), replace(0, "a0", 1), normal(0, 0)):
             self.assertEqual(last(*FULL, call), [-3])
+        for call in (step(REDEX), normal(REDEX, 0), normal(REDEX, 1), normal(WIDER, 1), replace(REDEX, "y", NORMAL)):
+            self.assertEqual(last(*FULL_OF_REDEXES, call), [-3])
 
     def test_calls_that_keep_nothing_are_answered_with_16_kept(self):
         self.assertEqual(last(*FULL, text(0)), [0] + list(b"a0"))
         self.assertEqual(last(*FULL, nodes(WIDE_NUMBER)), [0, 511])
         self.assertEqual(last(*FULL, same(0, 0)), [0, 1])
+        self.assertEqual(last(*FULL, names(0)), [0, 2] + list(b"a0"))
+        self.assertEqual(last(*FULL, drop(0)), [0])
 
     def test_a_number_that_is_not_kept(self):
         for number in NOT_KEPT + (1, 15):
             for call in (text(number), nodes(number), same(number, 0), same(0, number), same(number, number),
-                         apply(number, 0), apply(0, number), apply(number, number), abstract(number, "x")):
+                         apply(number, 0), apply(0, number), apply(number, number), abstract(number, "x"),
+                         replace(number, "x", 0), replace(0, "x", number), replace(number, "x", number),
+                         step(number), normal(number, 1), names(number), drop(number)):
                 self.assertEqual(last(read("x"), call), [-4], call)
 
     def test_nothing_is_kept_at_the_beginning(self):
-        for call in (text(0), nodes(0), same(0, 0), apply(0, 0), abstract(0, "x")):
+        for call in (text(0), nodes(0), same(0, 0), apply(0, 0), abstract(0, "x"), replace(0, "x", 0), step(0),
+                     normal(0, 0), names(0), drop(0)):
             self.assertEqual(ask(call), [[-4]], call)
 
 
@@ -96,6 +108,55 @@ class Order(unittest.TestCase):
         self.check(abstract(0, "a" * 32), [-1])
 
 
+class OrderOfReductions(unittest.TestCase):
+    def check(self, call, answer):
+        """With 16 terms kept, so that -3 holds too."""
+        self.assertEqual(last(*FULL_OF_REDEXES, call), answer, call[:8])
+
+    def test_not_kept_before_no_name(self):
+        for number in NOT_KEPT:
+            self.check(replace(number, "", REDEX), [-4])
+            self.check(replace(REDEX, "1", number), [-4])
+            self.check(replace(number, "", number), [-4])
+        self.assertEqual(last(read("x"), replace(0, "", 1)), [-4])
+        self.assertEqual(last(read("x"), replace(1, "", 0)), [-4])
+
+    def test_no_name_before_too_large(self):
+        self.check(replace(WIDE_TERM, "", WIDE_TERM), [-1])
+        self.check(replace(WIDE_TERM, "x ", WIDE_TERM), [-1])
+        self.check(replace(WIDE_TERM, "x" * 32, WIDE_TERM), [-1])
+
+    def test_no_name_before_16_kept(self):
+        self.check(replace(NORMAL, "", NORMAL), [-1])
+        self.check(replace(NORMAL, "x" * 4200, NORMAL), [-1])
+
+    def test_too_large_before_16_kept(self):
+        self.check(replace(WIDE_TERM, "x", WIDE_TERM), [-2])
+        self.check(replace(DEEPER, "g", DEEPER), [-2])
+        self.check(step(WIDER), [-2])
+        self.check(step(DEEPER), [-2])
+
+    def test_normal_before_16_kept(self):
+        self.check(step(NORMAL), [-5])
+        self.check(step(WIDE_TERM), [-5])
+
+    def test_not_kept_before_most_above_1000(self):
+        for number in NOT_KEPT:
+            self.check(normal(number, 1001), [-4])
+            self.check(normal(number, 2**32 - 1), [-4])
+        self.assertEqual(last(normal(0, 1001)), [-4])
+
+    def test_most_above_1000_before_16_kept(self):
+        for number in (REDEX, WIDER, NORMAL):
+            self.check(normal(number, 1001), [-6])
+            self.check(normal(number, 2**32 - 1), [-6])
+
+    def test_of_normal_too_large_is_no_refusal(self):
+        self.assertEqual(last(*REDEXES, normal(WIDER, 1000)), [0, 3, 0])
+        self.assertEqual(last(*REDEXES, normal(DEEPER, 1000)), [0, 3, 0])
+        self.check(normal(WIDER, 1000), [-3])
+
+
 class NothingChanges(unittest.TestCase):
     def check(self, before, refused):
         kept = ask(*before, *all_texts())[len(before):]
@@ -110,6 +171,18 @@ class NothingChanges(unittest.TestCase):
                         abstract(0, ""), abstract(0, "y "), abstract(2, "x")):
             self.check(before, refused)
 
+    def test_behind_a_refused_reduction(self):
+        before = FULL_OF_REDEXES[:5]
+        for refused in (replace(5, "x", 0), replace(0, "x", 5), replace(0, "", 1), replace(4, "x", 4),
+                        replace(2, "g", 2), step(5), step(NORMAL), step(WIDER), step(DEEPER), normal(5, 1),
+                        normal(0, 1001), normal(5, 1001), names(5), drop(5), drop(16), drop(2**32 - 1)):
+            self.check(before, refused)
+
+    def test_behind_a_refused_reduction_with_16_kept(self):
+        for refused in (replace(0, "y", 1), replace(0, "", 1), replace(4, "x", 4), step(REDEX), step(NORMAL),
+                        step(WIDER), normal(REDEX, 1), normal(REDEX, 1001), normal(NORMAL, 0), drop(16), names(16)):
+            self.check(FULL_OF_REDEXES, refused)
+
     def test_with_16_kept(self):
         for refused in (read("x"), read("+"), read("x " * 101), apply(0, 1), apply(0, 16), apply(0, DEEP_NUMBER),
                         abstract(0, "a0"), abstract(0, ""), abstract(16, "x"), text(16)):
@@ -117,7 +190,8 @@ class NothingChanges(unittest.TestCase):
 
     def test_the_next_term_gets_the_number_that_the_refused_one_did_not(self):
         before = [read("x")]
-        for refused in (read(")"), read("x " * 101), read(" " * 4097), apply(0, 1), abstract(0, "")):
+        for refused in (read(")"), read("x " * 101), read(" " * 4097), apply(0, 1), abstract(0, ""), step(0),
+                        replace(0, "", 0), normal(0, 1001), drop(1)):
             self.assertEqual(last(*before, refused, read("y")), [0, 1])
 
 

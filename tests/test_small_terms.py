@@ -5,6 +5,7 @@ import re
 import unittest
 
 from helpers import abstract, ask, last, nodes, read, same, text
+from named_terms import are_same, expected_text, source_of, terms_of
 
 ENDS = [middle + ")" * count for middle in ("", "x", ".x", "x.x") for count in range(6)]
 
@@ -42,66 +43,6 @@ class EverySmallText(unittest.TestCase):
                 else:
                     self.assertEqual(last(read(source)), [-1, expected_place(source)], source)
         self.assertGreater(terms, 200)
-
-
-def terms_of(count, names):
-    """Every term of so many nodes: a name, ("\\", name, body) or (function, argument)."""
-    if count == 1:
-        return list(names)
-    found = [("\\", name, body) for name in names for body in terms_of(count - 1, names)]
-    for left in range(1, count - 1):
-        found += itertools.product(terms_of(left, names), terms_of(count - 1 - left, names))
-    return found
-
-
-def source_of(term):
-    if isinstance(term, str):
-        return term
-    if len(term) == 3:
-        return f"(\\{term[1]}.{source_of(term[2])})"
-    return f"({source_of(term[0])} {source_of(term[1])})"
-
-
-def free_names(term):
-    if isinstance(term, str):
-        return {term}
-    if len(term) == 3:
-        return free_names(term[2]) - {term[1]}
-    return free_names(term[0]) | free_names(term[1])
-
-
-def are_same(left, right, pairs=()):
-    if isinstance(left, str) or isinstance(right, str):
-        for pair in pairs:
-            if left == pair[0] or right == pair[1]:
-                return (left, right) == pair
-        return left == right
-    if len(left) != len(right):
-        return False
-    if len(left) == 3:
-        return are_same(left[2], right[2], ((left[1], right[1]),) + pairs)
-    return are_same(left[0], right[0], pairs) and are_same(left[1], right[1], pairs)
-
-
-def expected_text(term):
-    free = free_names(term)
-    names = [name for name in (f"x{number}" for number in range(20)) if name not in free]
-
-    def write(part, scope):
-        if isinstance(part, str):
-            return next((new for old, new in reversed(scope) if old == part), part)
-        if len(part) == 3:
-            name = names[len(scope)]
-            return f"\\{name}.{write(part[2], scope + [(part[1], name)])}"
-        function = write(part[0], scope)
-        argument = write(part[1], scope)
-        if isinstance(part[0], tuple) and len(part[0]) == 3:
-            function = f"({function})"
-        if isinstance(part[1], tuple):
-            argument = f"({argument})"
-        return f"{function} {argument}"
-
-    return write(term, [])
 
 
 class EverySmallTerm(unittest.TestCase):
